@@ -1,0 +1,1 @@
+"""Least machines, and words that test them."""

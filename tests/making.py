@@ -1,0 +1,76 @@
+"""Machines for the tests, made the same way each time."""
+
+
+class Numbers:
+    """A row of numbers that looks thrown, but is the same for the same seed on every Python."""
+
+    def __init__(self, seed):
+        self.now = seed
+
+    def below(self, bound):
+        self.now = (self.now * 6364136223846793005 + 1442695040888963407) % 2 ** 64
+        return (self.now >> 33) % bound
+
+    def shuffled(self, things):
+        rest = list(things)
+        out = []
+        while rest:
+            out.append(rest.pop(self.below(len(rest))))
+        return out
+
+
+def thrown_machine(k, n, seed, rarely=2):
+    """Rows and takes; about one state in rarely has 1."""
+    numbers = Numbers(seed)
+    rows = [numbers.below(n) for number in range(k * n)]
+    takes = [1 if numbers.below(rarely) == 0 else 0 for state in range(n)]
+    return rows, takes
+
+
+def renumbered(k, rows, takes, names):
+    """The same machine with each state called names[state]."""
+    new_rows = [0] * len(rows)
+    new_takes = [0] * len(takes)
+    for state, name in enumerate(names):
+        new_takes[name] = takes[state]
+        for letter in range(k):
+            new_rows[k * name + letter] = names[rows[k * state + letter]]
+    return new_rows, new_takes
+
+
+def shuffled_machine(k, rows, takes, seed):
+    """The same machine with its states in another order, the first one aside."""
+    names = [0] + Numbers(seed).shuffled(range(1, len(takes)))
+    return renumbered(k, rows, takes, names)
+
+
+def blown_up(k, rows, takes, n, seed):
+    """A machine of n states that is the same: each state stands several times in it, and each
+    letter leads to some one of those that stand for where it led."""
+    numbers = Numbers(seed)
+    stands_for = list(range(len(takes)))
+    while len(stands_for) < n:
+        stands_for.append(numbers.below(len(takes)))
+    places = {}
+    for place, state in enumerate(stands_for):
+        places.setdefault(state, []).append(place)
+    new_rows = []
+    for state in stands_for:
+        for there in rows[k * state:k * state + k]:
+            new_rows.append(places[there][numbers.below(len(places[there]))])
+    return new_rows, [takes[state] for state in stands_for]
+
+
+def chain(k, n, onward):
+    """The letter onward leads to the next state, the last stays; other letters stay. The last takes."""
+    rows = []
+    for state in range(n):
+        row = [state] * k
+        row[onward] = min(state + 1, n - 1)
+        rows.extend(row)
+    return rows, [0] * (n - 1) + [1]
+
+
+def ring(n, takes):
+    """One letter, that leads round through all states."""
+    return [(state + 1) % n for state in range(n)], list(takes)
