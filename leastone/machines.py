@@ -1,8 +1,9 @@
-"""Machines over the letters 0 to k - 1, and the least one that takes the same words.
+"""Machines over the letters 0 to k - 1: the least one that is the same, the first word on which two differ.
 
 A machine is handed round as two lists: rows, k numbers for each state, and takes, one for each.
 """
 
+NO_WORD = -1
 OUT_OF_RANGE = -2
 NO_MACHINE = -3
 
@@ -19,6 +20,18 @@ def least(k, n, rows, takes):
     order = reached_states(k, rows)
     groups = alike_states(k, rows, takes, order)
     return joined_machine(k, rows, takes, order, groups)
+
+
+def apart(k, n, m, rows, takes, rows2, takes2):
+    """Give the first word that just one of two machines takes: how many letters, then these."""
+    if not (1 <= k <= MOST_LETTERS and 1 <= n <= MOST_STATES and 1 <= m <= MOST_STATES):
+        return [OUT_OF_RANGE]
+    if not (is_machine(n, rows, takes) and is_machine(m, rows2, takes2)):
+        return [NO_MACHINE]
+    word = first_word_apart(k, rows, takes, rows2, takes2)
+    if word is None:
+        return [NO_WORD]
+    return [len(word)] + word
 
 
 def is_machine(n, rows, takes):
@@ -92,3 +105,39 @@ def joined_machine(k, rows, takes, order, groups):
             new_rows.extend([groups[there] for there in row_of(k, rows, state)])
             new_takes.append(takes[state])
     return [len(new_takes)] + new_rows + new_takes
+
+
+def first_word_apart(k, rows, takes, rows2, takes2):
+    """Give the first word that just one of two machines takes, None if there is none."""
+    pairs = [(0, 0)]
+    seen = {(0, 0): True}
+    # For each pair of states: the place of the pair that it was found from, and by which letter.
+    earlier = [0]
+    letters = [0]
+    done = 0
+    # Pairs are found in the order of the first words that lead to them, as states are in
+    # reached_states: so the first pair that differs is the one that the first word leads to.
+    while done < len(pairs):
+        pair = pairs[done]
+        if takes[pair[0]] != takes2[pair[1]]:
+            return word_back(done, earlier, letters)
+        ahead = list(zip(row_of(k, rows, pair[0]), row_of(k, rows2, pair[1])))
+        for letter in range(k):
+            if ahead[letter] not in seen:
+                seen[ahead[letter]] = True
+                pairs.append(ahead[letter])
+                earlier.append(done)
+                letters.append(letter)
+        done = done + 1
+    return None
+
+
+def word_back(place, earlier, letters):
+    """Give the word that led to a place, gathered from its last letter to its first."""
+    word = []
+    here = place
+    while here > 0:
+        word.append(letters[here])
+        here = earlier[here]
+    word.reverse()
+    return word

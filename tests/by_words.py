@@ -63,3 +63,16 @@ def told_machine(k, answer):
     """Rows and takes out of an answer of least."""
     n = answer[0]
     return answer[1:1 + k * n], answer[1 + k * n:]
+
+
+def apart_by_words(k, rows, takes, rows2, takes2, longest):
+    """The answer of apart, from all words of up to longest letters, each run through both.
+
+    With n and m states, n + m - 2 letters are enough: put the states of both in one row, then
+    words of each length more part some group of these, or no longer word does.
+    """
+    for length in range(longest + 1):
+        for word in itertools.product(range(k), repeat=length):
+            if takes[led_to(k, rows, word)] != takes2[led_to(k, rows2, word)]:
+                return [length, *word]
+    return [-1]

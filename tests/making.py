@@ -1,4 +1,8 @@
-"""Machines for the tests, made the same way each time."""
+"""Machines and other things to hand in, made the same way each time."""
+
+# The ends of what may be handed in as a number.
+SMALLEST = -2147483648
+LARGEST = 2147483647
 
 
 class Numbers:
@@ -74,3 +78,58 @@ def chain(k, n, onward):
 def ring(n, takes):
     """One letter, that leads round through all states."""
     return [(state + 1) % n for state in range(n)], list(takes)
+
+
+def tailed_ring(tail, takes):
+    """One letter, that leads through tail states into a ring of all the others."""
+    return list(range(1, len(takes))) + [tail], list(takes)
+
+
+def with_idle_letters(k, rows, onward):
+    """The rows of one letter for k of them: onward leads where that one did, all others stay."""
+    new_rows = []
+    for state, there in enumerate(rows):
+        row = [state] * k
+        row[onward] = there
+        new_rows.extend(row)
+    return new_rows
+
+
+def listing(k, words, others=0):
+    """A machine that takes just these words, a set of tuples: a state for each of their beginnings,
+    then one for all that's lost. With others 1 it takes all words but these."""
+    beginnings = sorted({word[:length] for word in words for length in range(len(word) + 1)} | {()})
+    places = {beginning: place for place, beginning in enumerate(beginnings)}
+    lost = len(beginnings)
+    rows = [
+        places.get(beginning + (letter,), lost)
+        for beginning in beginnings
+        for letter in range(k)
+    ]
+    takes = [1 - others if beginning in words else others for beginning in beginnings]
+    return rows + [lost] * k, takes + [others]
+
+
+def shared_beginning(size, size2):
+    """The first size + size2 - 2 numbers, each 0 or 1 and not all alike, of two rows that repeat
+    after size and after size2, which share no factor. (Longer they would have to be all alike.)"""
+    length = size + size2 - 2
+    zeros = {0}
+    edge = [0]
+    while edge:
+        place = edge.pop()
+        for other in (place - size, place + size, place - size2, place + size2):
+            if 0 <= other < length and other not in zeros:
+                zeros.add(other)
+                edge.append(other)
+    return [0 if place in zeros else 1 for place in range(length)]
+
+
+class Watched(list):
+    """A list that lets nobody change it, not for a while either."""
+
+    def refuse(self, *handed):
+        raise AssertionError("a list that was handed in is changed")
+
+    append = clear = extend = insert = pop = remove = reverse = sort = refuse
+    __setitem__ = __delitem__ = __iadd__ = __imul__ = refuse

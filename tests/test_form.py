@@ -97,6 +97,15 @@ class Form(unittest.TestCase):
                 self.assertEqual(len(node.generators), 1)
                 self.assertLessEqual(len(node.generators[0].ifs), 1)
 
+    def test_is_stands_beside_none_true_and_false_alone(self):
+        """[L20]"""
+        for node in self.each_node(ast.Compare):
+            sides = [node.left] + node.comparators
+            for place, sign in enumerate(node.ops):
+                if isinstance(sign, (ast.Is, ast.IsNot)):
+                    beside = [side.value for side in sides[place:place + 2] if isinstance(side, ast.Constant)]
+                    self.assertTrue(any(value is None or isinstance(value, bool) for value in beside))
+
     def test_names(self):
         """[L8, L12, L15]"""
         for node in self.each_node(ast.Name, ast.arg, ast.FunctionDef):

@@ -7,10 +7,7 @@ import unittest
 
 from leastone.machines import least
 from tests.by_words import least_by_words, led_to, taken_words, told_machine, words_up_to
-from tests.making import blown_up, chain, renumbered, ring, shuffled_machine, thrown_machine
-
-SMALLEST = -2147483648
-LARGEST = 2147483647
+from tests.making import LARGEST, SMALLEST, Watched, blown_up, chain, renumbered, ring, shuffled_machine, thrown_machine
 
 
 class LeastCase(unittest.TestCase):
@@ -273,16 +270,6 @@ class Refusals(LeastCase):
 
     def test_wrong_in_both(self):
         self.assertEqual(least(1, 2, [2, 0], [2, 0]), [-3])
-
-
-class Watched(list):
-    """A list that lets nobody change it, not for a while either."""
-
-    def refuse(self, *handed):
-        raise AssertionError("a list that was handed in is changed")
-
-    append = clear = extend = insert = pop = remove = reverse = sort = refuse
-    __setitem__ = __delitem__ = __iadd__ = __imul__ = refuse
 
 
 class WhatHoldsForEveryCall(LeastCase):
