@@ -1,14 +1,21 @@
-"""Machines over the letters 0 to k - 1: the least one that is the same, the first word on which two differ.
+"""Machines over the letters 0 to k - 1: the least one that is the same, the first word on which two differ,
+the words that test one.
 
 A machine is handed round as two lists: rows, k numbers for each state, and takes, one for each.
 """
 
 NO_WORD = -1
+TOO_MANY = -1
 OUT_OF_RANGE = -2
 NO_MACHINE = -3
 
 MOST_LETTERS = 16
 MOST_STATES = 64
+
+MOST_TEST_LETTERS = 4
+MOST_TEST_STATES = 12
+MOST_MORE = 2
+MOST_BYTES = 2097152
 
 
 def least(k, n, rows, takes):
@@ -28,10 +35,24 @@ def apart(k, n, m, rows, takes, rows2, takes2):
         return [OUT_OF_RANGE]
     if not (is_machine(n, rows, takes) and is_machine(m, rows2, takes2)):
         return [NO_MACHINE]
-    word = first_word_apart(k, rows, takes, rows2, takes2)
+    word = first_word_apart(k, rows, takes, rows2, takes2, (0, 0))
     if word is None:
         return [NO_WORD]
     return [len(word)] + word
+
+
+def test(k, n, more, most, rows, takes):
+    """Give the words that test a least machine: how many numbers follow, then of each word its length and letters."""
+    if not (1 <= k <= MOST_TEST_LETTERS and 1 <= n <= MOST_TEST_STATES):
+        return [OUT_OF_RANGE]
+    if not (0 <= more <= MOST_MORE and 0 <= most <= MOST_BYTES):
+        return [OUT_OF_RANGE]
+    if not (is_machine(n, rows, takes) and is_least(k, n, rows, takes)):
+        return [NO_MACHINE]
+    told = told_words(words_of_three_parts(k, n, more, rows, takes))
+    if len(told) > most:
+        return [TOO_MANY]
+    return [len(told)] + told
 
 
 def is_machine(n, rows, takes):
@@ -43,6 +64,11 @@ def is_machine(n, rows, takes):
         if taken not in (0, 1):
             return False
     return True
+
+
+def is_least(k, n, rows, takes):
+    """Tell whether a machine is least: only then is it the very one that least gives."""
+    return least(k, n, rows, takes) == [n] + rows + takes
 
 
 def row_of(k, rows, state):
@@ -107,10 +133,13 @@ def joined_machine(k, rows, takes, order, groups):
     return [len(new_takes)] + new_rows + new_takes
 
 
-def first_word_apart(k, rows, takes, rows2, takes2):
-    """Give the first word that just one of two machines takes, None if there is none."""
-    pairs = [(0, 0)]
-    seen = {(0, 0): True}
+def first_word_apart(k, rows, takes, rows2, takes2, start):
+    """Give the first word that just one of two machines takes, each from its state of the pair start on.
+
+    It is None if there is none.
+    """
+    pairs = [start]
+    seen = {start: True}
     # For each pair of states: the place of the pair that it was found from, and by which letter.
     earlier = [0]
     letters = [0]
@@ -141,3 +170,65 @@ def word_back(place, earlier, letters):
         here = earlier[here]
     word.reverse()
     return word
+
+
+def words_of_three_parts(k, n, more, rows, takes):
+    """List the words of three parts in their order, each once."""
+    heads = head_words(k, first_words(k, n, rows))
+    middles = words_up_to(k, more)
+    tails = tail_words(k, n, rows, takes)
+    # Several threes may make one word: as a key it stands once.
+    words = {}
+    for head in heads:
+        for middle in middles:
+            for tail in tails:
+                words[head + middle + tail] = True
+    return sorted(words, key=lambda word: (len(word), word))
+
+
+def first_words(k, n, rows):
+    """Give for each state of a least machine the first word that leads there."""
+    words = [()]
+    for state in range(n):
+        for letter, there in enumerate(row_of(k, rows, state)):
+            # States are numbered in the order of their first words: the next one found is the next number.
+            if there == len(words):
+                words.append(words[state] + (letter,))
+    return words
+
+
+def head_words(k, firsts):
+    """List the first words of the states, and each of them with one letter more."""
+    words = list(firsts)
+    for word in firsts:
+        words.extend([word + (letter,) for letter in range(k)])
+    return words
+
+
+def words_up_to(k, longest):
+    """List all words of up to longest letters, in their order."""
+    words = [()]
+    done = 0
+    while len(words[done]) < longest:
+        words.extend([words[done] + (letter,) for letter in range(k)])
+        done = done + 1
+    return words
+
+
+def tail_words(k, n, rows, takes):
+    """List the word of no letters, and for any two states the first word that just one takes from there on."""
+    words = {(): True}
+    for state in range(n):
+        for other in range(state):
+            word = first_word_apart(k, rows, takes, rows, takes, (state, other))
+            words[tuple(word)] = True
+    return list(words)
+
+
+def told_words(words):
+    """Tell words one behind the other, each as how many letters it has, and they."""
+    told = []
+    for word in words:
+        told.append(len(word))
+        told.extend(word)
+    return told

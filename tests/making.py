@@ -133,3 +133,18 @@ class Watched(list):
 
     append = clear = extend = insert = pop = remove = reverse = sort = refuse
     __setitem__ = __delitem__ = __iadd__ = __imul__ = refuse
+
+
+def ordered_rows(k, n):
+    """All rows of n states by which words lead to each state, numbered in the order of the first ones."""
+    def finished(rows, found):
+        if len(rows) == k * n:
+            if found == n:
+                yield list(rows)
+            return
+        # The row of a state that no row ahead of it led to has no place here.
+        if len(rows) // k < found:
+            for state in range(min(found + 1, n)):
+                yield from finished(rows + [state], max(found, state + 1))
+
+    return list(finished([], 1))

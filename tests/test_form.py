@@ -116,6 +116,31 @@ class Form(unittest.TestCase):
             else:
                 self.assertFalse(hasattr(builtins, name), name)
 
+    def test_keywords_at_pythons_own(self):
+        """[L22]"""
+        allowed = {"sorted": {"key", "reverse"}, "min": {"key", "default"}, "max": {"key", "default"}}
+        allowed.update({"sum": {"start"}, "enumerate": {"start"}, "zip": {"strict"}})
+        for node in self.each_node(ast.Call):
+            name = node.func.id if isinstance(node.func, ast.Name) else ""
+            if name in PYTHONS_NAMES or isinstance(node.func, ast.Attribute):
+                self.assertLessEqual({keyword.arg for keyword in node.keywords}, allowed.get(name, set()))
+
+    def test_sets_are_neither_kept_nor_walked(self):
+        """[L24]: the package does without them."""
+        for node in self.each_node(ast.Set, ast.Name):
+            self.assertNotIsInstance(node, ast.Set)
+            self.assertNotIn(node.id, ("set", "frozenset"))
+
+    def test_no_power_and_no_sign_of_rest_within_a_text(self):
+        """[L27]"""
+        for node in self.each_node(ast.Pow, ast.Constant):
+            self.assertNotIsInstance(node, ast.Pow)
+            self.assertFalse(isinstance(node.value, str) and "%" in node.value)
+
+    def test_imports_nothing(self):
+        """What the program's document says of its functions."""
+        self.assertEqual(list(self.each_node(ast.Import, ast.ImportFrom)), [])
+
     def test_methods(self):
         """[L25]"""
         for node in self.each_node(ast.Attribute):
